@@ -158,15 +158,21 @@ func led(w World, steps int, move func(board) board) World {
 	return b.World
 }
 
+// relaidCells returns cells that are told in rows of a width in rows of another width, each laid where place tells.
+func relaidCells(cells string, width int, otherWidth int, place func(x, y int) (int, int)) string {
+	other := make([]byte, len(cells))
+	for i := range other {
+		x, y := place(i%width, i/width)
+		other[y*otherWidth+x] = cells[i]
+	}
+	return string(other)
+}
+
 // relaid returns a world of another size with each cell and the ant laid where place tells.
 func relaid(w World, width int, height int, place func(x, y int) (int, int)) World {
-	cells := make([]byte, len(w.Cells))
-	for i := range cells {
-		x, y := place(i%w.Width, i/w.Width)
-		cells[y*width+x] = w.Cells[i]
-	}
+	w.Cells = relaidCells(w.Cells, w.Width, width, place)
 	w.X, w.Y = place(w.X, w.Y)
-	w.Width, w.Height, w.Cells = width, height, string(cells)
+	w.Width, w.Height = width, height
 	return w
 }
 
