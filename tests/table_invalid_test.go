@@ -311,22 +311,29 @@ func TestTextsThatAreNoTables(t *testing.T) {
 	}
 }
 
+// oneByteFrom checks all beginnings and ends of a text, and all texts that have one byte less, one more or another one, and returns how often another byte is right.
+func oneByteFrom(text string, check func(other string) bool) int {
+	right := 0
+	for at := range len(text) {
+		check(text[:at])
+		check(text[at:])
+		check(text[:at] + text[at+1:])
+		for b := range 256 {
+			sign := string([]byte{byte(b)})
+			check(text[:at] + sign + text[at:])
+			if check(text[:at] + sign + text[at+1:]) {
+				right++
+			}
+		}
+	}
+	return right
+}
+
 // Texts that differ from that of a table by one byte are read if, and only if, they are texts of tables too.
 func TestTextsOneByteFromThoseOfTables(t *testing.T) {
 	read := 0
 	for _, text := range []string{"1/1:0L0", "2/1:0L10N0", "1/3:1L02R00N0", turningTable, "3/2:0L01L10R21N00U11L2"} {
-		for at := range len(text) {
-			wantParsed(t, text[:at])
-			wantParsed(t, text[at:])
-			wantParsed(t, text[:at]+text[at+1:])
-			for b := range 256 {
-				sign := string([]byte{byte(b)})
-				wantParsed(t, text[:at]+sign+text[at:])
-				if wantParsed(t, text[:at]+sign+text[at+1:]) {
-					read++
-				}
-			}
-		}
+		read += oneByteFrom(text, func(other string) bool { return wantParsed(t, other) })
 	}
 	if read < 100 {
 		t.Errorf("only %d texts are read", read)
